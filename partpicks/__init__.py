@@ -1,0 +1,1 @@
+"""Partpicks: hits picked on each machine, sent, and picked once more."""

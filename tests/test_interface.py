@@ -1,0 +1,61 @@
+"""The interface [19]: which file defines what, with which arguments, and what it needs."""
+
+import ast
+import inspect
+import unittest
+
+from partpicks import errors, hits, steps, words
+
+ARGUMENTS = {
+    hits: {
+        "is_hits": "thing", "is_parts": "hits thing", "names_of": "hits", "score_of": "hits name",
+        "labels_of": "hits name", "kinds": "hits", "labels_in": "hits kind", "with_label": "hits kind label",
+        "best_first": "hits", "better": "hits name", "with_hit": "hits name score labels",
+        "without_hit": "hits name", "part_of": "hits some", "raised": "hits number", "renamed_hits": "hits pairs",
+    },
+    steps: {
+        "is_step": "thing", "is_word": "thing", "kinds_in": "word", "picked": "hits word", "page": "hits word",
+        "left_along": "hits word", "best_left_out": "hits word", "goes_at": "hits word name",
+        "barred_by": "hits word name", "score_needed": "hits word name",
+    },
+    words: {
+        "kinds_needed": "word", "floor_of": "word", "near_of": "word", "caps": "word", "takes_out": "word",
+        "without_step": "word place", "reduced": "word", "is_reduced": "word", "raised_word": "word number",
+        "turned_kinds": "word turn",
+    },
+}
+ORDER = [module.__name__ for module in (errors, hits, steps, words)] + ["partpicks." + name for name in (
+    "parted", "send", "trees", "beside", "joined", "tables", "rankings", "told", "back", "board", "texts", "desk")]
+
+
+def needed_by(module):
+    """The names of the files of the package that this one imports from."""
+    tree = ast.parse(inspect.getsource(module))
+    return [node.module for node in ast.walk(tree) if isinstance(node, ast.ImportFrom)]
+
+
+class InterfaceTest(unittest.TestCase):
+
+    def test_arguments(self):
+        for module, functions in ARGUMENTS.items():
+            for name, arguments in functions.items():
+                with self.subTest(name):
+                    function = getattr(module, name)
+                    self.assertEqual(" ".join(inspect.signature(function).parameters), arguments)
+
+    def test_each_function_is_defined_in_its_file(self):
+        for module, functions in ARGUMENTS.items():
+            for name in functions:
+                with self.subTest(name):
+                    self.assertTrue(inspect.isfunction(getattr(module, name)))
+                    self.assertEqual(getattr(module, name).__module__, module.__name__)
+
+    def test_each_file_needs_only_those_ahead_of_it(self):
+        for module in (errors, *ARGUMENTS):
+            for name in needed_by(module):
+                with self.subTest(module.__name__, needs=name):
+                    self.assertNotIn(name, ORDER[ORDER.index(module.__name__):])
+
+
+if __name__ == "__main__":
+    unittest.main()
