@@ -44,6 +44,19 @@ def name_set(some_hits):
     return tuple(sorted([hit[0] for hit in some_hits]))
 
 
+def put_together(sets):
+    """The set of the names that are in these sets."""
+    names = []
+    for some in sets:
+        names.extend(some)
+    return tuple(sorted(set(names)))
+
+
+def without_names(some, others):
+    """The set of the names that are in the first set and not in the other one."""
+    return tuple([name for name in some if name not in others])
+
+
 def hit_of(hits, name):
     """The hit with this name, as it was handed in."""
     for hit in hits:

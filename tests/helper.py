@@ -30,6 +30,26 @@ ODD = (None, True, False, 0, 1, -5, FAR, "", "a", "abc", "top", [], [()], (0,), 
 # Steps for words of which all small ones are gone through.
 STEPS = (("floor", 1), ("near", 0), ("near", 1), ("each", 0, 1), ("each", 0, 2), ("each", 1, 1), ("each", 1, 2),
          ("top", 1), ("top", 2), ("top", 3))
+# Tops and eachs alone, of all kinds.
+CAPS = (("top", 1), ("top", 2), ("top", 3), ("each", 0, 1), ("each", 0, 2), ("each", 0, 3), ("each", 1, 1),
+        ("each", 1, 2), ("each", 2, 1))
+
+# Words of up to eight steps, with eachs of three kinds, numbers at the bounds and steps that do nothing.
+LONG_WORDS = (
+    (("floor", 3), ("near", 0), ("each", 0, 4), ("top", 5), ("each", 1, 3), ("top", 4), ("each", 2, 2), ("top", 3)),
+    (("top", 5), ("each", 2, 4), ("near", 2), ("top", 4), ("each", 0, 1), ("floor", FAR), ("top", 3), ("each", 1, 2)),
+    (("each", 1, 5), ("each", 0, 5), ("top", 5), ("floor", -FAR), ("near", FAR), ("each", 2, 4), ("top", 5),
+     ("near", 0)),
+    (("near", FAR), ("each", 2, 5), ("each", 1, 5), ("each", 0, 5), ("floor", FAR), ("floor", -FAR), ("top", 6)),
+    (("each", 0, 1), ("each", 1, 1), ("top", 2), ("each", 2, 1), ("floor", -5), ("near", 1), ("top", 9), ("top", 5)),
+    (("each", 1, 5), ("each", 2, 1), ("top", 5), ("top", 4), ("top", 3), ("near", 0), ("each", 0, 1), ("top", 2)),
+    (("each", 2, 2), ("each", 0, 5), ("near", 7), ("near", 3), ("each", 1, 4)),
+    (("top", 5), ("each", 1, 5), ("each", 2, 4), ("each", 0, 3)),
+    (("top", 2), ("each", 2, 1)), (("each", 1, 2), ("top", 5), ("each", 0, 4)), (("each", 2, 4), ("each", 1, 1)),
+    (("each", 0, 5), ("near", 2), ("top", 5), ("each", 1, 5), ("top", 1), ("each", 2, 1), ("floor", 4), ("top", 2)),
+    (("floor", 1), ("floor", 2), ("near", 3), ("near", 1), ("each", 1, 2), ("top", 3), ("top", 4), ("each", 2, 3)),
+    (("near", 4), ("top", 5), ("floor", -7), ("each", 0, 5), ("each", 2, 5), ("top", 5)),
+)
 
 
 def small_hits(names, scores, labels):
@@ -78,6 +98,42 @@ def left_of(hits, word):
 def names_in(hits):
     """The names of these hits, in their order."""
     return tuple(hit[0] for hit in hits)
+
+
+def picks(hits, word):
+    """The set of the names that are picked."""
+    return names_in(left_of(hits, word)[-1])
+
+
+def those(hits, names):
+    """The hits with these names."""
+    return tuple(hit for hit in hits if hit[0] in names)
+
+
+def together(sets):
+    """The set of all that is in these sets."""
+    return tuple(sorted(set().union(*sets)))
+
+
+def less(some, others):
+    """The set of those that are not among the others."""
+    return tuple(sorted(set(some) - set(others)))
+
+
+def sends(hits, parts, word):
+    """The list of the sets of names that are picked of the single parts."""
+    return [picks(those(hits, part), word) for part in parts]
+
+
+def picks_parted(hits, parts, word):
+    """The set of the names that are picked parted."""
+    return picks(those(hits, together(sends(hits, parts, word))), word)
+
+
+def all_parts(hits, many):
+    """All parts of these hits that are so many sets."""
+    for places in itertools.product(range(many), repeat=len(hits)):
+        yield tuple(tuple(hit[0] for hit, place in zip(hits, places) if place == part) for part in range(many))
 
 
 def is_exactly(one, other):
@@ -139,6 +195,12 @@ class Case(unittest.TestCase):
             if isinstance(told, list):
                 # Whoever gets a list may spoil it; the next call must not show that.
                 told.append("spoilt")
+
+    def told(self, function, **arguments):
+        """What the call returns, the same however it is made, if the document leaves open what it is."""
+        told = function(*arguments.values())
+        self.gives(copy.deepcopy(told), function, **arguments)
+        return told
 
     def fails(self, error, attributes, function, **arguments):
         """The call raises just this error with these attributes, however it is made."""

@@ -4,7 +4,7 @@ import ast
 import inspect
 import unittest
 
-from partpicks import errors, hits, steps, words
+from partpicks import beside, errors, hits, parted, send, steps, trees, words
 
 ARGUMENTS = {
     hits: {
@@ -23,9 +23,30 @@ ARGUMENTS = {
         "without_step": "word place", "reduced": "word", "is_reduced": "word", "raised_word": "word number",
         "turned_kinds": "word turn",
     },
+    parted: {
+        "picked_parted": "hits parts word", "is_right": "hits parts word", "may_be_parted": "word",
+        "barred_at": "word", "parted_paper": "word", "is_parted_paper": "word thing",
+    },
+    send: {
+        "is_enough": "word number", "enough": "word", "send_word": "word", "most_sent": "word",
+        "sent": "hits parts word", "how_many_sent": "hits parts word", "needed": "hits parts word",
+        "picked_of": "hits sets word", "wrong_by": "hits parts word number", "send_apart": "word number",
+        "is_send_apart": "word number thing",
+    },
+    trees: {
+        "is_tree": "parts thing", "shown": "hits parts word tree", "tree_shows": "hits parts word",
+        "wrong_tree": "hits parts word", "is_wrong_tree": "hits parts word thing", "kept_along": "hits parts word",
+        "wave_ends": "hits parts word", "wave_paper": "word", "is_wave_paper": "word thing",
+    },
+    beside: {
+        "only_by": "hits one other", "first_unlike": "hits one other", "is_straight": "word",
+        "are_alike": "one other", "parting_hits": "one other", "is_within": "one other", "within_paper": "one other",
+        "is_parting_hits": "one other thing", "is_within_paper": "one other thing",
+    },
 }
-ORDER = [module.__name__ for module in (errors, hits, steps, words)] + ["partpicks." + name for name in (
-    "parted", "send", "trees", "beside", "joined", "tables", "rankings", "told", "back", "board", "texts", "desk")]
+ORDER = ["partpicks." + name for name in (
+    "errors", "hits", "steps", "words", "parted", "send", "trees", "beside", "joined", "tables", "rankings", "told",
+    "back", "board", "texts", "desk")]
 
 
 def needed_by(module):

@@ -123,7 +123,8 @@ class PickingTest(Case):
 
     def test_twelve_hits_and_eight_steps(self):
         some = tuple((name, score, (label,)) for name, score, label in zip("abcdefghijkl", range(12), "stuvstuvstuv"))
-        word = (("floor", 1), ("near", 9), ("top", 9), ("each", 0, 2), ("floor", 5), ("top", 6), ("near", 5), ("top", 5))
+        word = (("floor", 1), ("near", 9), ("top", 9), ("each", 0, 2), ("floor", 5), ("top", 6), ("near", 5),
+                ("top", 5))
         left = [some[1:], some[2:], some[3:], some[4:], some[5:], some[6:], some[6:], some[7:]]
         self.gives([names_in(row) for row in left], steps.left_along, hits=some, word=word)
         self.gives(("l", "k", "j", "i", "h"), steps.page, hits=some, word=word)
