@@ -57,6 +57,19 @@ def without_names(some, others):
     return tuple([name for name in some if name not in others])
 
 
+def in_each(sets):
+    """The set of the names that are in each of these sets, one or more of them."""
+    return tuple([name for name in sets[0] if all([name in some for some in sets])])
+
+
+def all_sets(names):
+    """The ascending list of all sets of these names, which are a set themselves."""
+    sets = [()]
+    for name in names:
+        sets = sets + [some + (name,) for some in sets]
+    return sorted(sets)
+
+
 def hit_of(hits, name):
     """The hit with this name, as it was handed in."""
     for hit in hits:

@@ -248,3 +248,33 @@ class Case(unittest.TestCase):
 def words_of(*modules):
     """The names that these files of the package bind, for an example."""
     return {name: value for module in modules for name, value in vars(module).items() if not name.startswith("__")}
+
+
+def sets_of(names):
+    """The list of all sets of these names, the empty one among them, ascending."""
+    names = sorted(names)
+    return sorted(some for size in range(len(names) + 1) for some in itertools.combinations(names, size))
+
+
+def all_pickers(names):
+    """All pickers of these names."""
+    menus = sets_of(names)[1:]
+    for choice in itertools.product(*[sets_of(menu) for menu in menus]):
+        yield (names, tuple(zip(menus, choice)))
+
+
+def picker_from(names, function):
+    """The picker of these names that picks from each menu what the function tells of it."""
+    return (names, tuple((menu, tuple(sorted(set(function(menu))))) for menu in sets_of(names)[1:]))
+
+
+ODD_PICKER = picker_from(("a", "b", "c"), lambda menu: menu[:1] if len(menu) == 3 else menu)
+EDGES = picker_from(("a", "b", "c"), lambda menu: (menu[0], menu[-1]))
+NOTHING = picker_from(("a", "b"), lambda menu: ())
+LONE = picker_from(("q",), lambda menu: menu)
+LONE_NOTHING = picker_from(("q",), lambda menu: ())
+# Pickers of five names: the ends of a row, all, the second one, the most but two, those that come in pairs.
+FIVES = tuple(picker_from(tuple("abcde"), function) for function in (
+    lambda menu: (menu[0], menu[-1]), lambda menu: menu, lambda menu: menu[1:2], lambda menu: menu[:-2],
+    lambda menu: menu if len(menu) in (2, 4) else menu[:1], lambda menu: [name for name in menu if name not in "bd"],
+    lambda menu: menu[:2]))

@@ -4,7 +4,7 @@ import ast
 import inspect
 import unittest
 
-from partpicks import beside, errors, hits, parted, send, steps, trees, words
+from partpicks import beside, errors, hits, joined, parted, rankings, send, steps, tables, told, trees, words
 
 ARGUMENTS = {
     hits: {
@@ -42,6 +42,29 @@ ARGUMENTS = {
         "only_by": "hits one other", "first_unlike": "hits one other", "is_straight": "word",
         "are_alike": "one other", "parting_hits": "one other", "is_within": "one other", "within_paper": "one other",
         "is_parting_hits": "one other thing", "is_within_paper": "one other thing",
+    },
+    joined: {
+        "joined": "hits words way", "votes": "hits words", "joined_parted": "hits parts words way",
+        "joined_lost": "hits parts words way", "joined_come": "hits parts words way",
+        "may_be_joined": "one other way", "both_word": "one other", "joined_paper": "one other",
+        "is_joined_paper": "one other way thing",
+    },
+    tables: {
+        "is_picker": "thing", "picked_from": "picker some", "picker_of": "hits word", "heritage_breaks": "picker",
+        "has_heritage": "picker", "outcast_breaks": "picker", "has_outcast": "picker", "is_same_by_covers": "picker",
+        "is_same_by_cuts": "picker", "cover_against": "picker", "cut_against": "picker",
+        "is_cover_against": "picker thing", "is_cut_against": "picker thing", "wide_sets": "picker",
+    },
+    rankings: {
+        "best_by": "ranking some", "picker_by": "names rankings", "is_ranking_within": "picker ranking",
+        "how_many_within": "picker", "rankings_for": "picker", "fewest_rankings": "picker",
+        "is_rankings_for": "picker thing", "greatest_menus": "picker name",
+    },
+    told: {
+        "lost": "hits parts word", "come_in": "hits parts word", "how_many_right": "hits word",
+        "how_many_wrong": "hits word", "wrong_cut": "hits word", "most_lost": "hits word", "worst_cut": "hits word",
+        "is_worst_cut": "hits word thing", "surely_shown": "hits word", "maybe_shown": "hits word",
+        "cut_losing": "hits word name", "is_cut_losing": "hits word name thing",
     },
 }
 ORDER = ["partpicks." + name for name in (
