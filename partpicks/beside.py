@@ -120,25 +120,16 @@ def is_within(one, other):
     return has_floor_within(one, other) and has_near_within(one, other) and caps_within
 
 
-def crowded_rows(first, second, place):
-    """Rows of hits the last of which is the one with this place, from 1, that the first each leaves.
-
-    Both eachs are of one kind. As many labels as can be have just so many hits
-    as the second each, of a greater number, leaves of them.
-    """
-    kind, size = first[1:]
-    labels, rest = divmod(place - 1, size)
-    rows = [{kind: "s" + name_at(at)} for at in range(labels) for _ in range(second[2])]
-    return rows + [{kind: "s"}] * rest + [{}]
-
-
 def within_rows(one, other):
     """Rows of hits, of one score, the last of which these caps pick and the other ones do not."""
     if not one or other[0][:-1] != one[0][:-1] or other[0][-1] < one[0][-1]:
         return barring_rows(other[0], (0, 1, 2))
     if len(one) == 1:
         return barring_rows(other[1], ())
-    return crowded_rows(one[0], other[0], one[1][1])
+    kind, size = one[0][1:]
+    labels, rest = divmod(one[1][1] - 1, size)
+    rows = [{kind: "s" + name_at(at)} for at in range(labels) for _ in range(other[0][2])]
+    return rows + [{kind: "s"}] * rest + [{}]
 
 
 def within_paper(one, other):

@@ -1,9 +1,9 @@
 """Several words joined: what one of them picks, or each of them, also of hits in parts, and papers that part both."""
 
-from partpicks.beside import crowded_rows, is_within, most_needed
+from partpicks.beside import is_within, most_needed
 from partpicks.errors import NoPaper
 from partpicks.hits import in_each, names_of, put_together, without_names
-from partpicks.parted import check_parts, hits_made, is_parted_pair
+from partpicks.parted import check_parts, hits_made, is_parted_pair, name_at
 from partpicks.steps import picked
 from partpicks.words import caps_left, floor_of, is_cap, own_word, reduced
 
@@ -62,10 +62,11 @@ def both_word(one, other):
 
 
 def spared_rows(one, other):
-    """Rows of hits the last of which these caps pick of all, and the other ones only if some others are gone.
+    """Rows of hits the last of which other bars of them all, but not if those that one bars of the others are gone.
 
-    The first number of one is the lesser one, and so its each bars some hits
-    by which other bars the last one.
+    These are caps of which the first ones are an each of one and, of no lesser
+    number, an each or a top of other. What is left of the others are so few
+    hits that no top bars the last one then.
     """
     kind, size = one[0][1:]
     if other[0][0] == "top":
@@ -73,9 +74,8 @@ def spared_rows(one, other):
     own, number = other[0][1:]
     if own != kind:
         return [{kind: "s"}] * size + [{kind: "s", own: "q"}] * number + [{own: "q"}]
-    # Without a top there may be any number of labels; these are enough for the top of other.
-    place = one[1][1] if len(one) == 2 else other[1][1] * size + 1
-    return crowded_rows(one[0], other[0], place)
+    # The each of other bars none of these, so that they fill its top; the lesser each of one bars some.
+    return [{kind: "s" + name_at(at // number)} for at in range(other[1][1])] + [{}]
 
 
 def joined_paper(one, other):

@@ -3,7 +3,6 @@
 from partpicks.errors import NoName, NoPaper
 from partpicks.hits import all_sets, names_of, put_together, without_names
 from partpicks.parted import picked_among
-from partpicks.steps import check_kinds
 from partpicks.things import is_ascending, is_name_set
 
 
@@ -49,7 +48,6 @@ def picked_from(picker, some):
 
 def picker_of(hits, word):
     """The picker that picks from each set of names of the hits what the word picks of these."""
-    check_kinds(hits, word)
     names = names_of(hits)
     return (names, tuple([(menu, picked_among(hits, menu, word)) for menu in all_sets(names)[1:]]))
 

@@ -22,7 +22,7 @@ def all_cuts(hits):
     names = names_of(hits)
     # The first set has the least name, so that it is () only if there is no hit.
     firsts = [names[:1] + some for some in all_sets(names[1:])]
-    return sorted([(some, without_names(names, some)) for some in firsts])
+    return [(some, without_names(names, some)) for some in firsts]
 
 
 def is_cut(hits, thing):

@@ -4,7 +4,8 @@ import ast
 import inspect
 import unittest
 
-from partpicks import beside, errors, hits, joined, parted, rankings, send, steps, tables, told, trees, words
+from partpicks import (back, beside, board, desk, errors, hits, joined, parted, rankings, send, steps, tables, texts,
+                       told, trees, words)
 
 ARGUMENTS = {
     hits: {
@@ -66,6 +67,17 @@ ARGUMENTS = {
         "is_worst_cut": "hits word thing", "surely_shown": "hits word", "maybe_shown": "hits word",
         "cut_losing": "hits word name", "is_cut_losing": "hits word name thing",
     },
+    back: {
+        "plain_words": "many size most", "fitting_words": "cases many size most",
+        "surely_picked": "cases many size most hits", "maybe_picked": "cases many size most hits",
+        "least_quarrel": "cases many size most", "floors_fitting": "cases", "nears_fitting": "cases",
+    },
+    texts: {
+        "names_text": "some", "hits_text": "hits", "word_text": "word", "parts_text": "parts", "tree_text": "tree",
+        "lines_text": "hits", "names_read": "text", "hits_read": "text", "word_read": "text", "parts_read": "text",
+        "tree_read": "text", "lines_read": "text",
+    },
+    desk: {"is_request": "thing", "replies": "word machines text"},
 }
 ORDER = ["partpicks." + name for name in (
     "errors", "hits", "steps", "words", "parted", "send", "trees", "beside", "joined", "tables", "rankings", "told",
@@ -95,7 +107,7 @@ class InterfaceTest(unittest.TestCase):
                     self.assertEqual(getattr(module, name).__module__, module.__name__)
 
     def test_each_file_needs_only_those_ahead_of_it(self):
-        for module in (errors, *ARGUMENTS):
+        for module in (errors, board, *ARGUMENTS):
             for name in needed_by(module):
                 with self.subTest(module.__name__, needs=name):
                     self.assertNotIn(name, ORDER[ORDER.index(module.__name__):])
