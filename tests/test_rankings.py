@@ -189,7 +189,7 @@ class FewestTest(Case):
         names = ("a", "b", "c", "d")
         fewest = fewest_that_tell(names)
         self.assertEqual((len(fewest), max(fewest.values())), (596, 4))
-        for picker, many in list(fewest.items())[::3]:
+        for picker, many in fewest.items():
             self.has_its_fewest(picker, many)
 
     def test_five_names(self):
